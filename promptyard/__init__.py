@@ -1,0 +1,1 @@
+"""Promptyard: examples in texts, as Python's doctest reads, runs and reports them."""

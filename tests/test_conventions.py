@@ -1,0 +1,189 @@
+"""[3], [4] and [6], as far as the modules go that are there: how things are passed and returned."""
+
+import copy
+import inspect
+import unittest
+
+from helpers import COMPARING, DOTS, OTHERS, SIGNS
+from promptyard import checker, errors, outputs
+from promptyard.errors import BadFlag, BadIndex, BadLength, NotTaken
+
+FLAGS = COMPARING + OTHERS
+
+NO_FLAGS = [
+    None, True, False, 0, 1, "", "ellipsis", "ELLIPSIS ", "+ELLIPSIS", "REPORT_NDIFF",
+    ["ELLIPSIS"], ("SKIP",), {}, {"SKIP": 1},
+]
+
+SIGNATURES = {
+    checker.check: "(want, got, flags=())",
+    checker.check_error: "(want, got, flags=())",
+    checker.detail_free: "(text)",
+    checker.difference_text: "(want, got, flags=())",
+    checker.indented: "(text)",
+    checker.least_flags: "(want, got)",
+    outputs.least_taken: "(want, flags=())",
+    outputs.least_refused: "(want, flags=())",
+    outputs.parted: "(want, flags, other, other_flags)",
+    outputs.is_alike: "(want, flags, other, other_flags)",
+    outputs.beyond: "(want, flags, other, other_flags)",
+    outputs.shared: "(want, flags, other, other_flags)",
+    outputs.least_with: "(taken, refused)",
+    outputs.alike_groups: "(pairs)",
+    outputs.number_taken: "(want, flags, length)",
+    outputs.nth_taken: "(want, flags, index)",
+    outputs.index_of: "(want, flags, got)",
+}
+
+# Calls in which one list of flags is to be filled in, and nothing else is wrong.
+WITH_FLAGS = [
+    lambda flags: checker.check("a\n", "a\n", flags),
+    lambda flags: checker.check_error("a\n", "a\n", flags),
+    lambda flags: checker.difference_text("a\n", "b\n", flags),
+    lambda flags: outputs.least_taken("a\n", flags),
+    lambda flags: outputs.least_refused("a\n", flags),
+    lambda flags: outputs.parted("a\n", flags, "b\n", []),
+    lambda flags: outputs.parted("a\n", [], "b\n", flags),
+    lambda flags: outputs.is_alike("a\n", flags, "b\n", []),
+    lambda flags: outputs.is_alike("a\n", [], "b\n", flags),
+    lambda flags: outputs.beyond("a\n", flags, "b\n", []),
+    lambda flags: outputs.beyond("a\n", [], "b\n", flags),
+    lambda flags: outputs.shared("a\n", flags, "b\n", []),
+    lambda flags: outputs.shared("a\n", [], "b\n", flags),
+    lambda flags: outputs.least_with([("a\n", []), ("b\n", flags)], []),
+    lambda flags: outputs.least_with([("a\n", [])], [("b\n", []), ("c\n", flags)]),
+    lambda flags: outputs.alike_groups([("a\n", flags), ("b\n", [])]),
+    lambda flags: outputs.alike_groups([("a\n", []), ("b\n", flags)]),
+    lambda flags: outputs.number_taken("a\n", flags, 2),
+    lambda flags: outputs.nth_taken("a\n", flags, 0),
+    lambda flags: outputs.index_of("a\n", flags, "a\n"),
+]
+
+
+class Conventions(unittest.TestCase):
+    def raised(self, call, kind):
+        with self.assertRaises(kind) as caught:
+            call()
+        return caught.exception
+
+    def test_the_interface_is_defined_where_it_is_listed(self):
+        for function, signature in SIGNATURES.items():
+            self.assertEqual(str(inspect.signature(function)), signature, function.__name__)
+            place = checker if function.__name__ in vars(checker) else outputs
+            self.assertEqual(function.__module__, place.__name__)
+
+    def test_by_position_and_by_name(self):
+        self.assertIs(checker.check(got="a  b\n", flags=["NORMALIZE_WHITESPACE"], want="a b\n"), True)
+        self.assertIs(checker.check_error(got="A: 1\n", flags=["IGNORE_EXCEPTION_DETAIL"], want="A: 2\n"), True)
+        self.assertEqual(checker.difference_text(got="b\n", want="a\n"), "Expected:\n    a\nGot:\n    b\n")
+        self.assertEqual(checker.detail_free(text="a.B: c"), "B")
+        self.assertEqual(checker.indented(text="a"), "    a")
+        self.assertEqual(checker.least_flags(got="a\n", want="a\n"), [()])
+        self.assertEqual(outputs.least_taken(flags=["ELLIPSIS"], want="...b\n"), "b\n")
+        self.assertEqual(outputs.least_refused(flags=["ELLIPSIS"], want="...\n"), "")
+        names = {"other": "b\n", "other_flags": (), "flags": [], "want": "a\n"}
+        self.assertEqual(outputs.parted(**names), "a\n")
+        self.assertIs(outputs.is_alike(**names), False)
+        self.assertEqual(outputs.beyond(**names), "b\n")
+        self.assertIsNone(outputs.shared(**names))
+        self.assertEqual(outputs.least_with(refused=[("", [])], taken=[("...", ["ELLIPSIS"])]), "\n")
+        self.assertEqual(outputs.alike_groups(pairs=[("a\n", [])]), [[0]])
+        self.assertEqual(outputs.number_taken(length=2, flags=[], want="a\n"), 1)
+        self.assertEqual(outputs.nth_taken(index=0, flags=[], want="a\n"), "a\n")
+        self.assertEqual(outputs.index_of(got="a\n", flags=[], want="a\n"), 0)
+
+    def test_lists_and_tuples_are_alike_and_unchanged(self):
+        for kind in (list, tuple):
+            flags = kind(["NORMALIZE_WHITESPACE", "ELLIPSIS"])
+            self.assertIs(checker.check("a ...b", "a  b\n", flags), True)
+            pairs = kind([kind(["a...\n", flags]), kind(["a...\n", kind(["ELLIPSIS"])]), kind(["a...", flags])])
+            before = copy.deepcopy(pairs)
+            self.assertEqual(outputs.alike_groups(pairs), [[0, 2], [1]])
+            self.assertEqual(outputs.least_with(pairs, kind([])), "a\n")
+            self.assertEqual(outputs.least_with(pairs[:1], pairs[1:2]), "\ta\n")
+            self.assertEqual(pairs, before)
+            self.assertEqual(flags, kind(["NORMALIZE_WHITESPACE", "ELLIPSIS"]))
+
+    def test_a_list_that_is_returned_is_a_new_one(self):
+        groups = outputs.alike_groups([("a\n", []), ("a\n", [])])
+        groups[0].append(7)
+        groups.append([8])
+        self.assertEqual(outputs.alike_groups([("a\n", []), ("a\n", [])]), [[0, 1]])
+        sets = checker.least_flags("a b\n", "a  b\n")
+        sets.append(())
+        self.assertEqual(checker.least_flags("a b\n", "a  b\n"), [("NORMALIZE_WHITESPACE",)])
+
+    def test_the_kinds_of_what_is_returned(self):
+        self.assertIs(type(outputs.alike_groups((("a\n", ()),))), list)
+        self.assertIs(type(outputs.alike_groups((("a\n", ()),))[0]), list)
+        self.assertIs(type(checker.least_flags("a", "a")), list)
+        self.assertIs(type(checker.least_flags("a", "a")[0]), tuple)
+        self.assertIs(type(outputs.number_taken("a\n", [], 2)), int)
+        self.assertIs(type(outputs.number_taken("", [], 0)), int)
+        self.assertIs(type(outputs.index_of("a\n", [], "a\n")), int)
+        self.assertIs(outputs.is_alike("a\n", [], "a\n", []), True)
+        for want in ("a\n", "a...\n", "1\n", ""):
+            for got in ("a\n", "ab\n", "True\n", "", "b"):
+                for flags in ([], ["ELLIPSIS"], ["NORMALIZE_WHITESPACE"], list(FLAGS)):
+                    self.assertIn(repr(checker.check(want, got, flags)), ("True", "False"))
+                    self.assertIn(repr(checker.check_error(want, got, flags)), ("True", "False"))
+
+    def test_all_eight_flags_are_some_in_any_order_and_twice(self):
+        for call in WITH_FLAGS:
+            usual = [call([flag]) for flag in FLAGS]
+            self.assertEqual([call((flag, flag)) for flag in FLAGS], usual)
+            self.assertEqual(call(list(FLAGS)), call(FLAGS[::-1] + FLAGS))
+
+    def test_flags_that_are_not_of_comparing_change_no_comparison(self):
+        for want, got in (("a\n", "a\n"), ("a\n", "b\n"), ("1\n", "True\n"), ("\n", " \n"), ("a: b", "a: c")):
+            self.assertIs(checker.check(want, got, OTHERS), checker.check(want, got))
+        for call in WITH_FLAGS:
+            self.assertEqual(call(OTHERS), call(()))
+
+    def test_the_first_thing_that_is_no_flag(self):
+        for call in WITH_FLAGS:
+            for wrong in NO_FLAGS:
+                held = errors.BadFlag(wrong).flag
+                for flags in ([wrong], (wrong, "?"), list(FLAGS) + [wrong, 5], ["SKIP", wrong, "SKIP", [1]]):
+                    found = self.raised(lambda: call(flags), BadFlag).flag
+                    self.assertEqual(repr(found), repr(held))
+
+    def test_a_list_that_is_no_flag_is_held_as_a_tuple(self):
+        self.assertEqual(self.raised(lambda: checker.check("", "", [["SKIP", [1]]]), BadFlag).flag, ("SKIP", (1,)))
+
+    def test_flags_come_ahead_of_other_errors(self):
+        self.assertEqual(self.raised(lambda: outputs.number_taken("a\n", ["?"], -1), BadFlag).flag, "?")
+        self.assertEqual(self.raised(lambda: outputs.nth_taken("a\n", ["?"], None), BadFlag).flag, "?")
+        self.assertEqual(self.raised(lambda: outputs.index_of("a\n", ["?"], "b"), BadFlag).flag, "?")
+
+    def test_of_several_lists_the_first_is_looked_at_first(self):
+        for call in (outputs.parted, outputs.is_alike, outputs.beyond, outputs.shared):
+            self.assertEqual(self.raised(lambda: call("a", ["SKIP", 1], "b", [2]), BadFlag).flag, 1)
+            self.assertEqual(self.raised(lambda: call("a", ["SKIP"], "b", [2]), BadFlag).flag, 2)
+            found = self.raised(lambda: call(other_flags=[2], other="", want="", flags=[1]), BadFlag)
+            self.assertEqual(found.flag, 1)
+        pairs = [("a", ["SKIP"]), ("b", [1]), ("c", [2])]
+        self.assertEqual(self.raised(lambda: outputs.alike_groups(pairs), BadFlag).flag, 1)
+        self.assertEqual(self.raised(lambda: outputs.least_with(pairs, [("", [0])]), BadFlag).flag, 1)
+        self.assertEqual(self.raised(lambda: outputs.least_with([("", ["SKIP"])], pairs), BadFlag).flag, 1)
+
+    def test_true_and_false_are_no_integers(self):
+        for wrong in (True, False):
+            self.assertIs(self.raised(lambda: outputs.number_taken("...", DOTS, wrong), BadLength).length, wrong)
+            self.assertIs(self.raised(lambda: outputs.nth_taken("...", DOTS, wrong), BadIndex).index, wrong)
+
+    def test_errors_change_nothing(self):
+        flags = ["SKIP", "?"]
+        pairs = [["a", flags]]
+        self.raised(lambda: outputs.alike_groups(pairs), BadFlag)
+        self.assertEqual(pairs, [["a", ["SKIP", "?"]]])
+        self.raised(lambda: outputs.index_of("a", [], "b"), NotTaken)
+
+    def test_the_signs_of_outputs(self):
+        self.assertEqual(len(SIGNS), 96)
+        found = [outputs.nth_taken("...\n", DOTS + ["DONT_ACCEPT_BLANKLINE"], index) for index in range(97)]
+        self.assertEqual(found, ["\n"] + [sign + "\n" for sign in SIGNS])
+
+
+if __name__ == "__main__":
+    unittest.main()
