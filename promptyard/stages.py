@@ -28,10 +28,15 @@ def blanks_emptied(got):
     return "\n".join(["" if is_blank(line) else line for line in got.split("\n")])
 
 
+def words_of(text):
+    """Return the words of a text: the stretches without blanks and line feeds."""
+    spaced = text.replace("\t", " ").replace("\n", " ")
+    return [word for word in spaced.split(" ") if word]
+
+
 def words_joined(text):
     """Return the words of a text with one space between them."""
-    spaced = text.replace("\t", " ").replace("\n", " ")
-    return " ".join([word for word in spaced.split(" ") if word])
+    return " ".join(words_of(text))
 
 
 def has_pieces(pieces, got):

@@ -5,8 +5,8 @@ import inspect
 import unittest
 
 from helpers import COMPARING, DOTS, OTHERS, SIGNS
-from promptyard import checker, errors, outputs
-from promptyard.errors import BadFlag, BadIndex, BadLength, NotTaken
+from promptyard import checker, errors, outputs, plays, scripts, texts
+from promptyard.errors import BadFlag, BadIndex, BadLength, BadText, NotTaken
 
 FLAGS = COMPARING + OTHERS
 
@@ -33,6 +33,19 @@ SIGNATURES = {
     outputs.number_taken: "(want, flags, length)",
     outputs.nth_taken: "(want, flags, index)",
     outputs.index_of: "(want, flags, got)",
+    texts.levelled: "(text)",
+    texts.parsed: "(text)",
+    texts.examples_of: "(text)",
+    texts.joined: "(pieces)",
+    texts.error_of: "(want)",
+    texts.Example: "(source, want='', *, error=None, line=1, indent=0, options=None)",
+    texts.Comment: "(source, want='', *, line=1, indent=0)",
+    scripts.script_of: "(text)",
+    plays.is_play: "(thing)",
+    plays.acted: "(play, source, names=None)",
+    plays.error_text: "(error)",
+    plays.traceback_text: "(error)",
+    plays.ended: "(printed)",
 }
 
 # Calls in which one list of flags is to be filled in, and nothing else is wrong.
@@ -67,10 +80,13 @@ class Conventions(unittest.TestCase):
         return caught.exception
 
     def test_the_interface_is_defined_where_it_is_listed(self):
-        for function, signature in SIGNATURES.items():
-            self.assertEqual(str(inspect.signature(function)), signature, function.__name__)
-            place = checker if function.__name__ in vars(checker) else outputs
-            self.assertEqual(function.__module__, place.__name__)
+        for thing, signature in SIGNATURES.items():
+            self.assertEqual(str(inspect.signature(thing)), signature, thing.__name__)
+        for place in (checker, outputs, texts, scripts, plays):
+            own = [thing for thing in SIGNATURES if thing.__module__ == place.__name__]
+            self.assertTrue(own)
+            for thing in own:
+                self.assertIs(vars(place)[thing.__name__], thing)
 
     def test_by_position_and_by_name(self):
         self.assertIs(checker.check(got="a  b\n", flags=["NORMALIZE_WHITESPACE"], want="a b\n"), True)
@@ -91,6 +107,39 @@ class Conventions(unittest.TestCase):
         self.assertEqual(outputs.number_taken(length=2, flags=[], want="a\n"), 1)
         self.assertEqual(outputs.nth_taken(index=0, flags=[], want="a\n"), "a\n")
         self.assertEqual(outputs.index_of(got="a\n", flags=[], want="a\n"), 0)
+
+    def test_texts_and_plays_by_name(self):
+        self.assertEqual(texts.levelled(text=" a"), "a")
+        self.assertEqual(texts.parsed(text="a"), ["a"])
+        self.assertEqual(texts.examples_of(text=">>> a"), [texts.Example(source="a")])
+        self.assertEqual(texts.joined(pieces=[texts.Comment(source="#")]), ">>> #\n")
+        self.assertIsNone(texts.error_of(want=""))
+        self.assertEqual(scripts.script_of(text="a"), "# a\n")
+        self.assertEqual(plays.acted(names=None, source="a", play={"a": []}), ("", None, {}))
+
+    def test_pieces_in_lists_and_tuples(self):
+        pieces = texts.parsed("a\n>>> b # doctest: +SKIP\nc\n>>> # d")
+        before = copy.deepcopy(pieces)
+        self.assertEqual(texts.joined(pieces), texts.joined(tuple(pieces)))
+        self.assertEqual(pieces, before)
+
+    def test_the_kinds_of_what_texts_and_plays_return(self):
+        self.assertIs(type(texts.parsed("")), list)
+        self.assertIs(type(texts.examples_of("")), list)
+        example, comment = texts.parsed(">>> a # doctest: +SKIP\n>>> # b")
+        self.assertEqual([type(thing) for thing in vars(example).values()], [str, str, type(None), int, int, dict, str])
+        self.assertEqual([type(thing) for thing in vars(comment).values()], [str, str, int, int])
+        self.assertIs(plays.is_play({"a": [("show", "b")]}), True)
+        self.assertIs(plays.is_play(None), False)
+        printed, error, names = plays.acted({"a": [["raise", "A", "b"]]}, "a", {"c": (1,)})
+        self.assertEqual([type(thing) for thing in (printed, error, names, names["c"])], [str, tuple, dict, list])
+
+    def test_an_error_of_a_text_changes_nothing(self):
+        error = self.raised(lambda: texts.parsed(">>>a"), BadText)
+        self.assertIsInstance(error, errors.PromptError)
+        options = {"SKIP": True, "?": False}
+        self.assertEqual(self.raised(lambda: texts.Example("a", options=options), BadFlag).flag, "?")
+        self.assertEqual(options, {"SKIP": True, "?": False})
 
     def test_lists_and_tuples_are_alike_and_unchanged(self):
         for kind in (list, tuple):

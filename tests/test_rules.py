@@ -59,7 +59,13 @@ INTERFACE = {
     "checker": "check check_error detail_free difference_text indented least_flags",
     "outputs": "least_taken least_refused parted is_alike beyond shared least_with alike_groups number_taken nth_taken"
     " index_of",
+    "texts": "levelled parsed examples_of joined error_of Example Comment",
+    "scripts": "script_of",
+    "plays": "is_play acted error_text traceback_text ended",
 }
+
+# The methods that the interface lists for classes.
+LISTED = {"Example": "__init__ __eq__", "Comment": "__init__ __eq__"}
 
 
 def sources():
@@ -121,6 +127,11 @@ class Files(unittest.TestCase):
         for name, words in INTERFACE.items():
             defined = {node.name for node in TREES[name].body if isinstance(node, (ast.FunctionDef, ast.ClassDef))}
             self.assertLessEqual(set(words.split()), defined)
+
+    def test_the_methods_that_are_listed_stand_in_their_classes(self):
+        found = {node.name: {part.name for part in node.body if isinstance(part, ast.FunctionDef)} for _, node in nodes(ast.ClassDef)}
+        for name, words in LISTED.items():
+            self.assertLessEqual(set(words.split()), found[name])
 
     def test_each_file_and_function_and_class_tells_what_it_is_for(self):
         for place, node in nodes(ast.Module, ast.ClassDef, ast.FunctionDef):
@@ -265,6 +276,29 @@ class Code(unittest.TestCase):
             self.assertNotIsInstance(node.iter, (ast.Set, ast.SetComp), place)
             if isinstance(node.iter, ast.Call):
                 self.assertNotEqual(getattr(node.iter.func, "id", ""), "set", place)
+
+    def test_what_stands_beside_classes_that_compare(self):
+        for place, node in nodes(ast.Call):
+            if isinstance(node.func, ast.Name) and node.func.id in ("any", "all", "min", "max", "sum", "sorted"):
+                for argument in node.args:
+                    self.assertNotIsInstance(argument, ast.GeneratorExp, place)
+            if isinstance(node.func, ast.Attribute):
+                self.assertNotEqual(node.func.attr, "sort", place)
+        for place, node in nodes(ast.FunctionDef):
+            if node.name == "__eq__":
+                [told] = node.body
+                self.assertIsInstance(told, ast.Return, place)
+                self.assertIsInstance(told.value, ast.BoolOp, place)
+                for part in told.value.values[1:]:
+                    self.assertIsInstance(part, ast.Compare, place)
+
+    def test_tables_have_no_functions_of_other_files(self):
+        for name, tree in TREES.items():
+            imported = {alias.name for node in tree.body if isinstance(node, ast.ImportFrom) for alias in node.names}
+            for node in tree.body:
+                if isinstance(node, ast.Assign) and isinstance(node.value, (ast.Dict, ast.List, ast.Tuple)):
+                    for part in ast.walk(node.value):
+                        self.assertNotIn(getattr(part, "id", None), imported, (name, node.lineno))
 
     def test_errors(self):
         for place, node in nodes(ast.ExceptHandler):
