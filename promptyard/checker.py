@@ -32,6 +32,11 @@ def check(want, got, flags=()):
 def check_error(want, got, flags=()):
     """Tell whether an expected error text lets another one by."""
     require_flags(flags)
+    return error_lets_by(want, got, flags)
+
+
+def error_lets_by(want, got, flags):
+    """Tell what check_error tells, with flags that are known to be some."""
     if lets_by(want, got, flags):
         return True
     return IGNORE_DETAIL in flags and lets_by(detail_free(want), detail_free(got), flags)

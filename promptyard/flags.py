@@ -6,7 +6,10 @@ ONE_IS_NOT_TRUE = "DONT_ACCEPT_TRUE_FOR_1"
 NO_BLANKLINE = "DONT_ACCEPT_BLANKLINE"
 NORMALIZE = "NORMALIZE_WHITESPACE"
 ELLIPSIS = "ELLIPSIS"
+SKIP = "SKIP"
 IGNORE_DETAIL = "IGNORE_EXCEPTION_DETAIL"
+FIRST_FAILURE = "REPORT_ONLY_FIRST_FAILURE"
+FAIL_FAST = "FAIL_FAST"
 
 FLAGS = (
     "DONT_ACCEPT_TRUE_FOR_1",
@@ -38,3 +41,8 @@ def require_flags(flags):
     for thing in flags:
         if not is_flag(thing):
             raise BadFlag(thing)
+
+
+def in_force(flags, options):
+    """Return the flags in force for an example with options, if those of its runner are flags."""
+    return [flag for flag in FLAGS if options.get(flag, flag in flags)]

@@ -7,14 +7,10 @@ from promptyard.flags import require_flags
 from promptyard.languages import refused_by, taken_by
 from promptyard.machines import SIGNS
 from promptyard.searching import least_in
+from promptyard.values import is_count
 
 # An output with an index has at most so many signs.
 MOST_SIGNS = 60
-
-
-def is_count(thing):
-    """Tell whether any object is an integer from 0 on."""
-    return isinstance(thing, int) and not isinstance(thing, bool) and thing >= 0
 
 
 def is_output(text):

@@ -47,20 +47,31 @@ def is_play(thing):
     return isinstance(thing, dict) and all([is_text(key) and is_act(thing[key]) for key in thing])
 
 
+def require_play(thing):
+    """Raise BadPlay for any object that is no play."""
+    if not is_play(thing):
+        raise BadPlay()
+
+
 def acted(play, source, names=None):
     """Return what the act of a source prints, the error that it raises or None, and the names then."""
-    if not is_play(play):
-        raise BadPlay()
+    require_play(play)
     now = held_names(names)
+    printed, error = played(play, source, now)
+    return printed, error, now
+
+
+def played(play, source, names):
+    """Do the act of a source with names, which it may change, and return what it prints and its error or None."""
     if source not in play:
-        return "", ("SyntaxError", "invalid syntax"), now
-    printed = ""
+        return "", ("SyntaxError", "invalid syntax")
+    printed = []
     for deed in play[source]:
-        text, error = done(deed, now)
-        printed = printed + text
+        text, error = done(deed, names)
+        printed.append(text)
         if error is not None:
-            return printed, error, now
-    return printed, None, now
+            return "".join(printed), error
+    return "".join(printed), None
 
 
 def done(deed, names):

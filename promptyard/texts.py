@@ -60,9 +60,14 @@ class Comment:
         )
 
 
+def widened(text):
+    """Return text with spaces for its tabs, up to the next column of those that tabs go to."""
+    return text.expandtabs(TAB)
+
+
 def levelled(text):
     """Return text with spaces for its tabs, and without the least indent of its lines."""
-    lines = text.expandtabs(TAB).split("\n")
+    lines = widened(text).split("\n")
     least = min([indent_of(line) for line in lines if not is_blank(line)], default=0)
     return "\n".join([line[least:] for line in lines])
 

@@ -15,6 +15,11 @@ def is_text(thing):
     return isinstance(thing, str)
 
 
+def is_count(thing):
+    """Tell whether any object is an integer from 0 on."""
+    return isinstance(thing, int) and not isinstance(thing, bool) and thing >= 0
+
+
 def is_name(thing):
     """Tell whether any object is a name."""
     return isinstance(thing, str) and thing.isascii() and thing.isidentifier()

@@ -5,7 +5,7 @@ import inspect
 import unittest
 
 from helpers import COMPARING, DOTS, OTHERS, SIGNS
-from promptyard import checker, errors, outputs, plays, scripts, texts
+from promptyard import checker, errors, finding, judging, outputs, plays, rewriting, running, scripts, texts
 from promptyard.errors import BadFlag, BadIndex, BadLength, BadText, NotTaken
 
 FLAGS = COMPARING + OTHERS
@@ -46,6 +46,27 @@ SIGNATURES = {
     plays.error_text: "(error)",
     plays.traceback_text: "(error)",
     plays.ended: "(printed)",
+    running.Test: "(examples, names=None, name='text', file=None, line=None)",
+    running.test_of: "(text, names=None, name='text', file=None, line=None)",
+    running.Runner: "(play, flags=())",
+    running.succeeds: "(play, test, flags=())",
+    finding.is_module: "(thing)",
+    finding.find_tests: "(module, *, recurse=True, exclude_empty=True, names=None, more=None)",
+    finding.tested: "(module, play, flags=(), *, verbose=False, exclude_empty=False, names=None, more=None)",
+    judging.text_parted: "(one, other, flags=())",
+    judging.idle_examples: "(text, flags=())",
+    rewriting.rewritten: "(text, play, names=None, flags=())",
+    rewriting.least_options: "(text, play, names=None, flags=())",
+    rewriting.directed: "(text, words)",
+}
+
+# The methods that are listed for classes.
+METHODS = {
+    running.Test: {"examples": "(self)", "names": "(self)", "shown": "(self)"},
+    running.Runner: {
+        "run": "(self, test, *, verbose=False, clear=True)", "run_strictly": "(self, test, *, clear=True)", "total": "(self)",
+        "counts": "(self)", "merge": "(self, other)", "summary": "(self, verbose=False)",
+    },
 }
 
 # Calls in which one list of flags is to be filled in, and nothing else is wrong.
@@ -72,6 +93,17 @@ WITH_FLAGS = [
     lambda flags: outputs.index_of("a\n", flags, "a\n"),
 ]
 
+# Likewise such in which other flags than those of comparing matter.
+WITH_ALL_FLAGS = [
+    lambda flags: running.Runner({}, flags).run(running.test_of(">>> a\n>>> a")),
+    lambda flags: running.succeeds({}, running.test_of(">>> a"), flags),
+    lambda flags: finding.tested({"name": "m", "doc": ">>> a\n>>> a"}, {}, flags),
+    lambda flags: judging.text_parted(">>> a\n1\n", ">>> a\n2\n", flags),
+    lambda flags: judging.idle_examples(">>> a\n", flags),
+    lambda flags: rewriting.rewritten(">>> a\n", {}, None, flags),
+    lambda flags: rewriting.least_options(">>> a\n", {}, None, flags),
+]
+
 
 class Conventions(unittest.TestCase):
     def raised(self, call, kind):
@@ -82,11 +114,14 @@ class Conventions(unittest.TestCase):
     def test_the_interface_is_defined_where_it_is_listed(self):
         for thing, signature in SIGNATURES.items():
             self.assertEqual(str(inspect.signature(thing)), signature, thing.__name__)
-        for place in (checker, outputs, texts, scripts, plays):
+        for place in (checker, outputs, texts, scripts, plays, running, finding, judging, rewriting):
             own = [thing for thing in SIGNATURES if thing.__module__ == place.__name__]
             self.assertTrue(own)
             for thing in own:
                 self.assertIs(vars(place)[thing.__name__], thing)
+        for kind, methods in METHODS.items():
+            for name, signature in methods.items():
+                self.assertEqual(str(inspect.signature(vars(kind)[name])), signature, name)
 
     def test_by_position_and_by_name(self):
         self.assertIs(checker.check(got="a  b\n", flags=["NORMALIZE_WHITESPACE"], want="a b\n"), True)
@@ -116,6 +151,55 @@ class Conventions(unittest.TestCase):
         self.assertIsNone(texts.error_of(want=""))
         self.assertEqual(scripts.script_of(text="a"), "# a\n")
         self.assertEqual(plays.acted(names=None, source="a", play={"a": []}), ("", None, {}))
+
+    def test_runs_and_modules_by_name(self):
+        test = running.Test(line=1, file="f", name="n", names={"x": 1}, examples=[texts.Example("x", "1")])
+        runner = running.Runner(flags=["ELLIPSIS"], play={"x\n": [("show", "x")]})
+        self.assertEqual(runner.run(clear=False, verbose=False, test=test), ((0, 1, 0), ["success"], ""))
+        self.assertEqual(runner.run_strictly(clear=False, test=test), (0, 1, 0))
+        self.assertEqual(test.names(), {"x": 1})
+        other = running.Runner(play={})
+        other.merge(other=runner)
+        self.assertEqual((other.total(), other.summary(verbose=False)), ((0, 2, 0), ""))
+        self.assertIs(running.succeeds(flags=(), test=test, play={}), False)
+        self.assertEqual(running.test_of(text="", names=None, name="n", file="f", line=0).shown(), "<DocTest n from f:0 (no examples)>")
+        self.assertIs(finding.is_module(thing={"name": "m"}), True)
+        self.assertEqual(len(finding.find_tests(module={"name": "m"}, exclude_empty=False, more={}, names={}, recurse=False)), 1)
+        found = finding.tested(more=None, names=None, exclude_empty=True, verbose=True, flags=(), play={}, module={"name": "m"})
+        self.assertEqual(found, ((0, 0, 0), "", "0 tests in 0 items.\n0 passed.\nTest passed.\n"))
+
+    def test_lists_and_tuples_in_tests_and_modules(self):
+        found = []
+        for kind in (list, tuple):
+            play = {"a\n": kind([kind(["print", "1\n"]), kind(["set", "x", kind([kind([]), 1])]), kind(["show", "x"])])}
+            flags = kind(["ELLIPSIS"])
+            names = {"y": kind([kind([2])])}
+            test = running.Test(kind([texts.Example("a", "1\n...1]")]), names)
+            runner = running.Runner(play, flags)
+            module = {"name": "m", "doc": ">>> a\n1\n[[], 1]\n", "names": names}
+            before = copy.deepcopy((play, flags, names, module))
+            found.append([
+                runner.run(test, clear=False), test.names(), running.succeeds(play, test, flags), finding.tested(module, play, flags, more=names),
+                finding.find_tests(module)[0].names(), rewriting.rewritten(">>> a\n", play, names, flags),
+                rewriting.least_options(">>> a\n1...\n", play, names, kind([])), rewriting.directed(">>> a\n", kind([kind(["+SKIP"])])),
+                judging.text_parted(">>> a\n1\n", ">>> a\n1...\n", flags), judging.idle_examples(">>> a", flags),
+            ])
+            self.assertEqual((play, flags, names, module), before)
+        self.assertEqual(repr(found[0]), repr(found[1]))
+        self.assertEqual(found[0][:2], [((0, 1, 0), ["success"], ""), {"y": [[2]], "x": [[], 1]}])
+
+    def test_the_kinds_of_what_runs_return(self):
+        runner = running.Runner({})
+        test = running.test_of(">>> a")
+        counts, words, report = runner.run(test)
+        self.assertEqual([type(thing) for thing in (counts, *counts, words, report)], [tuple, int, int, int, list, str])
+        self.assertEqual([type(thing) for thing in (runner.total(), runner.counts(), runner.summary())], [tuple, dict, str])
+        self.assertEqual([type(thing) for thing in (test.examples(), test.names(), test.shown())], [list, dict, str])
+        self.assertEqual([runner.merge(runner), type(runner.total()[0])], [None, int])
+        self.assertIs(type(rewriting.least_options(">>> a", {})), list)
+        self.assertIs(type(judging.idle_examples("")), list)
+        self.assertIs(running.succeeds({}, running.Test([])), True)
+        self.assertIs(finding.is_module([]), False)
 
     def test_pieces_in_lists_and_tuples(self):
         pieces = texts.parsed("a\n>>> b # doctest: +SKIP\nc\n>>> # d")
@@ -189,8 +273,13 @@ class Conventions(unittest.TestCase):
         for call in WITH_FLAGS:
             self.assertEqual(call(OTHERS), call(()))
 
+    def test_all_eight_flags_where_each_of_them_may_matter(self):
+        for call in WITH_ALL_FLAGS:
+            self.assertEqual([call((flag, flag)) for flag in FLAGS], [call([flag]) for flag in FLAGS])
+            self.assertEqual(call(list(FLAGS)), call(FLAGS[::-1] + FLAGS))
+
     def test_the_first_thing_that_is_no_flag(self):
-        for call in WITH_FLAGS:
+        for call in WITH_FLAGS + WITH_ALL_FLAGS:
             for wrong in NO_FLAGS:
                 held = errors.BadFlag(wrong).flag
                 for flags in ([wrong], (wrong, "?"), list(FLAGS) + [wrong, 5], ["SKIP", wrong, "SKIP", [1]]):

@@ -62,10 +62,17 @@ INTERFACE = {
     "texts": "levelled parsed examples_of joined error_of Example Comment",
     "scripts": "script_of",
     "plays": "is_play acted error_text traceback_text ended",
+    "running": "Test test_of Runner succeeds",
+    "finding": "is_module find_tests tested",
+    "judging": "text_parted idle_examples",
+    "rewriting": "rewritten least_options directed",
 }
 
 # The methods that the interface lists for classes.
-LISTED = {"Example": "__init__ __eq__", "Comment": "__init__ __eq__"}
+LISTED = {
+    "Example": "__init__ __eq__", "Comment": "__init__ __eq__", "Test": "__init__ examples names shown",
+    "Runner": "__init__ run run_strictly total counts merge summary",
+}
 
 
 def sources():
