@@ -5,7 +5,7 @@ from promptyard.flags import FAIL_FAST, FIRST_FAILURE, in_force, require_flags
 from promptyard.outcomes import ERROR, FAILURE, SKIPPED, has_failed, outcome_of, with_traceback_of
 from promptyard.plays import require_play
 from promptyard.reports import report_of
-from promptyard.tallies import counts_of, number_of, summary_of, summed
+from promptyard.tallies import FAILED, counts_of, number_of, summary_of, summed
 from promptyard.texts import examples_of
 from promptyard.values import held_names, names_copy
 
@@ -124,5 +124,5 @@ class Runner:
 def succeeds(play, test, flags=()):
     """Tell whether no example of a test fails, which stays as it is."""
     runner = Runner(play, flags)
-    counts, _, _ = runner.run(Test(test.examples(), test.names()))
-    return counts[0] == 0
+    runner.run(Test(test.examples(), test.names()))
+    return runner.total()[FAILED] == 0

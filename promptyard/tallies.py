@@ -6,6 +6,11 @@ An ITEM is a name under which counts were added up.
 from promptyard.outcomes import SKIPPED, has_failed
 from promptyard.reports import STARS
 
+# The places of the numbers in counts.
+FAILED = 0
+TRIED = 1
+PASSED_OVER = 2
+
 
 def counts_of(words):
     """Return the counts of the words of examples that were tried."""
@@ -14,11 +19,7 @@ def counts_of(words):
 
 def summed(many):
     """Return the sum of a list of counts."""
-    return (
-        sum([failed for failed, _, _ in many]),
-        sum([tried for _, tried, _ in many]),
-        sum([skipped for _, _, skipped in many]),
-    )
+    return tuple([sum([counts[place] for counts in many]) for place in (FAILED, TRIED, PASSED_OVER)])
 
 
 def number_of(number, word):
@@ -36,22 +37,32 @@ def summary_of(counts, verbose):
 
 def untried_lines(counts):
     """Return the lines of the items of which nothing was tried."""
-    items = [name for name, (_, tried, _) in counts.items() if tried == 0]
+    items = [name for name in counts if counts[name][TRIED] == 0]
     return headed("had no tests:", ["    " + name for name in items])
 
 
 def passed_lines(counts):
     """Return the lines of the items of which something was tried and nothing failed."""
-    items = [(name, tried) for name, (failed, tried, _) in counts.items() if tried > 0 and failed == 0]
-    words = [(name, tried, "test" if tried == 1 else "tests") for name, tried in items]
-    return headed("passed all tests:", [f" {tried:>3} {word} in {name}" for name, tried, word in words])
+    items = [name for name in counts if counts[name][TRIED] > 0 and counts[name][FAILED] == 0]
+    return headed("passed all tests:", [passed_line(name, counts[name][TRIED]) for name in items])
+
+
+def passed_line(name, tried):
+    """Return the line of an item of which nothing failed."""
+    word = "test" if tried == 1 else "tests"
+    return f" {tried:>3} {word} in {name}"
 
 
 def failed_lines(counts):
     """Return the lines of the items of which something failed."""
-    items = [(name, failed, tried) for name, (failed, tried, _) in counts.items() if failed > 0]
-    lines = headed("had failures:", [f" {failed:>3} of {tried:>3} in {name}" for name, failed, tried in items])
+    items = [name for name in counts if counts[name][FAILED] > 0]
+    lines = headed("had failures:", [failed_line(name, counts[name]) for name in items])
     return [STARS.removesuffix("\n")] + lines if lines else []
+
+
+def failed_line(name, counts):
+    """Return the line of an item of which something failed."""
+    return f" {counts[FAILED]:>3} of {counts[TRIED]:>3} in {name}"
 
 
 def headed(head, lines):
