@@ -38,6 +38,6 @@ def has_failed(word):
     return word in (FAILURE, ERROR)
 
 
-def with_traceback_of(got, error):
+def got_in_all(got, error):
     """Return what was got, with the traceback behind it if there was an error."""
     return got if error is None else got + traceback_text(error)

@@ -1,7 +1,7 @@
 """What a run reports of its examples."""
 
 from promptyard.checker import difference_text, indented
-from promptyard.outcomes import ERROR, has_failed, with_traceback_of
+from promptyard.outcomes import ERROR, got_in_all, has_failed
 from promptyard.plays import traceback_text
 
 # The line ahead of what has failed, in reports and summaries.
@@ -28,7 +28,7 @@ def failure_report(test, example, outcome, flags):
     if word == ERROR:
         told = "Exception raised:\n" + indented(traceback_text(error))
     else:
-        told = difference_text(example.want, with_traceback_of(got, error), flags)
+        told = difference_text(example.want, got_in_all(got, error), flags)
     return f"{STARS}{place_of(test, example)}\nFailed example:\n{indented(example.source)}{told}"
 
 

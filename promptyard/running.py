@@ -2,7 +2,7 @@
 
 from promptyard.errors import Failed, Unexpected, held
 from promptyard.flags import FAIL_FAST, FIRST_FAILURE, in_force, require_flags
-from promptyard.outcomes import ERROR, FAILURE, SKIPPED, has_failed, outcome_of, with_traceback_of
+from promptyard.outcomes import ERROR, FAILURE, SKIPPED, got_in_all, has_failed, outcome_of
 from promptyard.plays import require_play
 from promptyard.reports import report_of
 from promptyard.tallies import FAILED, counts_of, number_of, summary_of, summed
@@ -85,7 +85,7 @@ class Runner:
             flags = in_force(self._flags, example.options)
             word, got, error = test.tried(example, self._play, flags)
             if word == FAILURE:
-                raise Failed(number, with_traceback_of(got, error))
+                raise Failed(number, got_in_all(got, error))
             if word == ERROR:
                 raise Unexpected(number, error)
             words.append(word)
